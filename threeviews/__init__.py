@@ -1,0 +1,1 @@
+"""Views: parts of wood, and their drawings from the front, the right and above."""
