@@ -2,21 +2,8 @@
 
 import unittest
 
+from tests.helping import Untouched, data, text_of
 from threeviews.drawings import of
-
-
-def data(text):
-    return list(text.encode("latin-1"))
-
-
-class Untouched(list):
-    """A list that fails as soon as somebody changes it, were it for a while only."""
-
-    def refuse(self, *args, **kwargs):
-        raise AssertionError("what was handed in is changed")
-
-    append = clear = extend = insert = pop = remove = reverse = sort = refuse
-    __setitem__ = __delitem__ = __iadd__ = __imul__ = refuse
 
 
 class OfCase(unittest.TestCase):
@@ -26,9 +13,8 @@ class OfCase(unittest.TestCase):
         The count by hand: 6 for `front`, 6 for `right`, 4 for `top`, each with
         its line feed, and h * (w + 1) + h * (d + 1) + d * (w + 1) for the rows.
         """
-        rows = ["front"] + front.split() + ["right"] + right.split() + ["top"] + top.split()
         answer = of(data(text))
-        self.assertEqual(answer, [count] + data("".join(row + "\n" for row in rows)))
+        self.assertEqual(answer, [count] + data(text_of(front, right, top)))
         self.assertEqual(answer[0], len(answer) - 1)
         self.assertEqual({type(number) for number in answer}, {int})
 

@@ -1,6 +1,7 @@
 """The calls of the document, each by itself."""
 
-from threeviews.texts import MOST_BYTES, Drawing, PartFault, read_part, write_drawing
+from threeviews.texts import MOST_BYTES, Drawing, DrawingFault, PartFault
+from threeviews.texts import read_drawing, read_part, write_drawing
 
 TOO_LONG = -2
 AT_FAULT = -6
@@ -62,3 +63,14 @@ def of(part):
         return [AT_FAULT, fault.line, fault.why]
     text = write_drawing(drawing_of(block))
     return [len(text)] + text
+
+
+def judge(drawing):
+    """Whether a drawing's text is at fault: 0, or a refusal."""
+    if len(drawing) > MOST_BYTES:
+        return [TOO_LONG]
+    try:
+        read_drawing(drawing)
+    except DrawingFault as fault:
+        return [AT_FAULT, fault.line]
+    return [0]

@@ -27,6 +27,13 @@ class PartFault(Exception):
         self.why = why
 
 
+class DrawingFault(Exception):
+    """A drawing's text is at fault: in which line."""
+
+    def __init__(self, line):
+        self.line = line
+
+
 class Part:
     """A block's sizes and its cuts, each cut a tuple x, y, z, w, d, h."""
 
@@ -44,6 +51,43 @@ class Drawing:
         self.front = front
         self.right = right
         self.top = top
+
+
+class DrawingLines:
+    """The lines of a drawing's text, taken one behind the other.
+
+    A wrong line and a missing one are told alike: the first missing line
+    has the number that tells how many lines there are.
+    """
+
+    def __init__(self, lines):
+        self.lines = lines
+        self.at = 0
+
+    def coming(self):
+        """The line to be taken next, or None behind the last."""
+        if self.at == len(self.lines):
+            return None
+        return self.lines[self.at]
+
+    def take_word(self, word):
+        """Takes the line that is this word."""
+        if self.coming() != word:
+            raise DrawingFault(self.at)
+        self.at += 1
+
+    def take_row(self, shortest, longest):
+        """Takes a row whose length is within these bounds, and gives it back."""
+        row = self.coming()
+        if row is None or not is_row(row) or not shortest <= len(row) <= longest:
+            raise DrawingFault(self.at)
+        self.at += 1
+        return row
+
+    def take_end(self):
+        """Takes nothing more: no line may be left."""
+        if self.coming() is not None:
+            raise DrawingFault(self.at)
 
 
 def lines_of(data):
@@ -144,6 +188,32 @@ def read_part(data):
     for at in range(1, len(lines)):
         part.cuts.append(read_cut(part, at, lines[at]))
     return part
+
+
+def is_row(line):
+    """Whether a line has the signs of a row alone."""
+    return all([sign in "#." for sign in line])
+
+
+def read_drawing(data):
+    """The drawing that a text tells; DrawingFault if the text is at fault."""
+    lines = DrawingLines(lines_of(data))
+    lines.take_word("front")
+    front = [lines.take_row(1, MOST_SIZE)]
+    w = len(front[0])
+    while len(front) < MOST_SIZE and lines.coming() != "right":
+        front.append(lines.take_row(w, w))
+    lines.take_word("right")
+    right = [lines.take_row(1, MOST_SIZE)]
+    d = len(right[0])
+    while len(right) < len(front):
+        right.append(lines.take_row(d, d))
+    lines.take_word("top")
+    top = []
+    while len(top) < d:
+        top.append(lines.take_row(w, w))
+    lines.take_end()
+    return Drawing(turned(front), turned(right), turned(top))
 
 
 def turned(rows):
