@@ -39,18 +39,91 @@ def row_of(bits, long):
     return "".join([sign_for((bits >> at) & 1 == 1) for at in range(long)])
 
 
-def drawing_of(part):
-    """The drawing that a part has."""
-    cells = cells_of(part)
+def views_of(cells, w):
+    """The drawing of cells in the form of cells_of, with rows of w."""
     front = []
     right = []
     for layer in cells:
-        front.append(row_of(joined(layer), part.w))
+        front.append(row_of(joined(layer), w))
         right.append("".join([sign_for(bits != 0) for bits in layer]))
     top = []
-    for y in range(part.d):
-        top.append(row_of(joined([layer[y] for layer in cells]), part.w))
+    for y in range(len(cells[0])):
+        top.append(row_of(joined([layer[y] for layer in cells]), w))
     return Drawing(front, right, top)
+
+
+def bits_of(row):
+    """The number that has a bit where a row is dark."""
+    bits = 0
+    for at, sign in enumerate(row):
+        if sign == "#":
+            bits = bits | (1 << at)
+    return bits
+
+
+def most_of(drawing):
+    """What the most of a drawing has, in the form of cells_of."""
+    top = [bits_of(row) for row in drawing.top]
+    cells = []
+    for front, right in zip(drawing.front, drawing.right):
+        dark = bits_of(front)
+        cells.append([dark & bits if sign == "#" else 0 for sign, bits in zip(right, top)])
+    return cells
+
+
+def alone_among(numbers):
+    """The number that has every bit that just one of the numbers has."""
+    once = 0
+    more = 0
+    for number in numbers:
+        more = more | (once & number)
+        once = once | number
+    return once & ~more
+
+
+def sure_in(bits, alone):
+    """The sure cells of a row, where alone tells what is alone from the front or from above."""
+    # From the right the whole row is one line.
+    if bits & (bits - 1) == 0:
+        return bits
+    return bits & alone
+
+
+def sure_of(cells):
+    """Which of the most's cells are sure, in the form of cells_of."""
+    above = []
+    for y in range(len(cells[0])):
+        above.append(alone_among([layer[y] for layer in cells]))
+    sure = []
+    for layer in cells:
+        front = alone_among(layer)
+        sure.append([sure_in(bits, front | alone) for bits, alone in zip(layer, above)])
+    return sure
+
+
+def how_many(cells, w):
+    """How many cells there are, in rows of w."""
+    many = 0
+    for layer in cells:
+        for bits in layer:
+            many += row_of(bits, w).count("#")
+    return many
+
+
+def have_same_views(one, other):
+    """Whether two drawings of the same sizes are the same."""
+    return one.front == other.front and one.right == other.right and one.top == other.top
+
+
+def refusal_of(drawing):
+    """The refusal of a drawing's text, or None if there's none."""
+    if len(drawing) > MOST_BYTES:
+        return [TOO_LONG]
+    try:
+        read_drawing(drawing)
+    except DrawingFault as fault:
+        return [AT_FAULT, fault.line]
+    return None
 
 
 def of(part):
@@ -61,16 +134,25 @@ def of(part):
         block = read_part(part)
     except PartFault as fault:
         return [AT_FAULT, fault.line, fault.why]
-    text = write_drawing(drawing_of(block))
+    text = write_drawing(views_of(cells_of(block), block.w))
     return [len(text)] + text
 
 
 def judge(drawing):
     """Whether a drawing's text is at fault: 0, or a refusal."""
-    if len(drawing) > MOST_BYTES:
-        return [TOO_LONG]
-    try:
-        read_drawing(drawing)
-    except DrawingFault as fault:
-        return [AT_FAULT, fault.line]
+    refusal = refusal_of(drawing)
+    if refusal is not None:
+        return refusal
     return [0]
+
+
+def sizes(drawing):
+    """Of a drawing's text its sizes, how many cells the most has and how many are sure, and if it's of something."""
+    refusal = refusal_of(drawing)
+    if refusal is not None:
+        return refusal
+    views = read_drawing(drawing)
+    w = len(views.front[0])
+    most = most_of(views)
+    something = 1 if have_same_views(views_of(most, w), views) else 0
+    return [0, w, len(views.top), len(views.front), how_many(most, w), how_many(sure_of(most), w), something]
