@@ -110,6 +110,14 @@ def how_many(cells, w):
     return many
 
 
+def is_among(cells, x, y, z):
+    """Whether (x, y, z) is one of the cells; off their block nothing is."""
+    if z >= len(cells) or y >= len(cells[0]):
+        return False
+    # A row has no bit beyond the block, so x needs no bound.
+    return (cells[z][y] >> x) & 1 == 1
+
+
 def have_same_views(one, other):
     """Whether two drawings of the same sizes are the same."""
     return one.front == other.front and one.right == other.right and one.top == other.top
@@ -156,3 +164,16 @@ def sizes(drawing):
     most = most_of(views)
     something = 1 if have_same_views(views_of(most, w), views) else 0
     return [0, w, len(views.top), len(views.front), how_many(most, w), how_many(sure_of(most), w), something]
+
+
+def cell(x, y, z, drawing):
+    """What (x, y, z) is by a drawing's text: 0 not the most's, 1 the most's, 2 sure."""
+    refusal = refusal_of(drawing)
+    if refusal is not None:
+        return refusal
+    most = most_of(read_drawing(drawing))
+    if is_among(sure_of(most), x, y, z):
+        return [2]
+    if is_among(most, x, y, z):
+        return [1]
+    return [0]
