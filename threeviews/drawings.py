@@ -1,9 +1,10 @@
 """The calls of the document, each by itself."""
 
 from threeviews.texts import MOST_BYTES, Drawing, DrawingFault, PartFault
-from threeviews.texts import read_drawing, read_part, write_drawing
+from threeviews.texts import read_drawing, read_part, write_drawing, write_slice
 
 TOO_LONG = -2
+OFF_BLOCK = -4
 AT_FAULT = -6
 
 
@@ -177,3 +178,16 @@ def cell(x, y, z, drawing):
     if is_among(most, x, y, z):
         return [1]
     return [0]
+
+
+def slice_of(z, drawing):
+    """The most's slice z of a drawing's text: how many bytes it has, then they."""
+    refusal = refusal_of(drawing)
+    if refusal is not None:
+        return refusal
+    views = read_drawing(drawing)
+    if z >= len(views.front):
+        return [OFF_BLOCK]
+    w = len(views.front[0])
+    text = write_slice([row_of(bits, w) for bits in most_of(views)[z]])
+    return [len(text)] + text

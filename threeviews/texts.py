@@ -221,10 +221,20 @@ def turned(rows):
     return list(reversed(rows))
 
 
+def data_of(lines):
+    """The text of lines, as a list of bytes, with a line feed behind each."""
+    text = "".join([line + "\n" for line in lines])
+    return [ord(sign) for sign in text]
+
+
 def write_drawing(drawing):
     """The text of a drawing, as a list of bytes."""
     lines = ["front"] + turned(drawing.front)
     lines = lines + ["right"] + turned(drawing.right)
     lines = lines + ["top"] + turned(drawing.top)
-    text = "".join([line + "\n" for line in lines])
-    return [ord(sign) for sign in text]
+    return data_of(lines)
+
+
+def write_slice(rows):
+    """The text of a slice's rows, given from row 0 up, as a list of bytes."""
+    return data_of(turned(rows))
