@@ -73,18 +73,97 @@ def refused_drawings():
     ]
 
 
-def parts_of_two():
-    """For each set of cells of a block of 2 each way: the cells, and the text of a part that has just them."""
-    places = [(x, y, z) for z in range(2) for y in range(2) for x in range(2)]
+def refused_parts():
+    """Parts' texts and their refusals, worked out from the document by hand."""
+    block = "part a 3 2 4 x\n"
+    inside = "cut 0 0 0 1 1 1\n"
+    return [
+        ("", [-6, 0, 3]),
+        (inside, [-6, 0, 3]),
+        (inside + block, [-6, 0, 3]),
+        (block + block, [-6, 1, 3]),
+        (block + inside * 2 + block, [-6, 3, 3]),
+        ("\n", [-6, 0, 1]),
+        ("front\n", [-6, 0, 1]),
+        ("part a 3 2 4 x", [-6, 0, 1]),
+        ("part a 3 2 4\n", [-6, 0, 1]),
+        ("part A 3 2 4 x\n", [-6, 0, 1]),
+        ("part a 3 2 4 w\n", [-6, 0, 1]),
+        ("part a 0 2 4 x\n", [-6, 0, 1]),
+        ("part a 3 17 4 x\n", [-6, 0, 1]),
+        ("part a 3 2 04 x\n", [-6, 0, 1]),
+        (block + "cut 0 0 0 0 1 1\n", [-6, 1, 1]),
+        (block + inside + "cut 0 0 0 1 1 17\n", [-6, 2, 1]),
+        (block + "cut 0 0 0 1 1\n" + block, [-6, 1, 1]),
+        (block + inside + "\n", [-6, 2, 1]),
+        (block + inside[:-1], [-6, 1, 1]),
+        (block + "cut 3 0 0 1 1 1\n", [-6, 1, 4]),
+        (block + "cut 0 1 0 1 2 1\n" + inside, [-6, 1, 4]),
+        (block + inside * 5 + "cut 0 0 0 1 1 5\n", [-6, 6, 4]),
+        (block + "cut 0 0 4294967296 1 1 1\n", [-6, 1, 4]),
+        (block + inside * 65, [-6, 65, 2]),
+        (block + inside * 64 + "cut 3 0 0 1 1 1\n", [-6, 65, 4]),
+        (block + inside * 1023, [-6, 65, 2]),
+        ("a" * 16384, [-6, 0, 1]),
+        (block + "c" * (16384 - 15), [-6, 1, 1]),
+        (block + "c" * (16385 - 15), [-2]),
+        ("a" * 16385, [-2]),
+        ("\n" * 20000, [-2]),
+    ]
+
+
+def places_of(w, d, h):
+    """All places of a block of these sizes."""
+    return [(x, y, z) for z in range(h) for y in range(d) for x in range(w)]
+
+
+def part_of(w, d, h, had):
+    """The text of a part of these sizes that has just these cells; no more than 64 may be cut away."""
+    cuts = ["cut %d %d %d 1 1 1\n" % place for place in places_of(w, d, h) if place not in had]
+    return "part a %d %d %d x\n" % (w, d, h) + "".join(cuts)
+
+
+def parts_of(w, d, h):
+    """For each set of cells of a block of these sizes: the cells, and the text of a part that has just them."""
+    places = places_of(w, d, h)
     found = []
-    for choice in range(256):
-        had = [place for at, place in enumerate(places) if choice >> at & 1]
-        cuts = ["cut %d %d %d 1 1 1\n" % place for place in places if place not in had]
-        found.append((frozenset(had), "part a 2 2 2 x\n" + "".join(cuts)))
+    for choice in range(1 << len(places)):
+        had = frozenset(place for at, place in enumerate(places) if choice >> at & 1)
+        found.append((had, part_of(w, d, h, had)))
     return found
+
+
+def parts_of_many_sizes():
+    """Parts of at most 64 cells, the same ones every time: w, d, h and the cells."""
+    number = 1
+    found = []
+    for w, d, h in ((3, 4, 5), (4, 4, 4), (5, 4, 3), (2, 3, 4), (4, 3, 2), (3, 2, 4), (3, 3, 3), (7, 3, 3),
+                    (16, 2, 2), (2, 16, 2), (2, 2, 16), (16, 4, 1), (1, 16, 4), (4, 1, 16),
+                    (16, 1, 1), (1, 16, 1), (1, 1, 16)):
+        # Of every 8 places as many as few are had.
+        for few in (1, 2, 4, 6, 7):
+            had = []
+            for place in places_of(w, d, h):
+                number = (number * 1103515245 + 12345) % 2147483648
+                if number // 65536 % 8 < few:
+                    had.append(place)
+            found.append((w, d, h, frozenset(had)))
+    return found
+
+
+def parts_of_two():
+    """What parts_of tells of a block of 2 each way."""
+    return parts_of(2, 2, 2)
+
+
+def drawings_of(w, d, h):
+    """The text of every drawing of these sizes."""
+    def views(long, many):
+        rows = ["".join(signs) for signs in itertools.product("#.", repeat=long)]
+        return [" ".join(chosen) for chosen in itertools.product(rows, repeat=many)]
+    return [text_of(*chosen) for chosen in itertools.product(views(w, h), views(d, h), views(w, d))]
 
 
 def drawings_of_two():
     """The text of every drawing whose w, d and h are 2."""
-    views = ["%s%s %s%s" % signs for signs in itertools.product("#.", repeat=4)]
-    return [text_of(front, right, top) for front, right, top in itertools.product(views, repeat=3)]
+    return drawings_of(2, 2, 2)

@@ -268,7 +268,8 @@ class Refusals(SliceCase):
 
 class EachCallByItself(unittest.TestCase):
     calls = ((3, MIXED), (0, MIXED), (4, MIXED), (2, FULL), (0, "front\n#\n"), (9, ""), (0, "#" * 16385))
-    answers = [[8] + data("#.#\n#..\n"), [8] + data("###\n##.\n"), [-4], [8] + data("###\n###\n"), [-6, 2], [-6, 0], [-2]]
+    answers = [[8] + data("#.#\n#..\n"), [8] + data("###\n##.\n"), [-4], [8] + data("###\n###\n"),
+               [-6, 2], [-6, 0], [-2]]
 
     def test_what_is_handed_in_stays(self):
         for z, text in self.calls:

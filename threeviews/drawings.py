@@ -7,6 +7,9 @@ TOO_LONG = -2
 OFF_BLOCK = -4
 AT_FAULT = -6
 
+# Stands, of has, behind the line of a drawing's fault, where a part's has its why.
+OF_THE_DRAWING = 99
+
 
 def cells_of(part):
     """What a part has: at [z][y] a number whose bit x is 1 if it has (x, y, z)."""
@@ -119,12 +122,44 @@ def is_among(cells, x, y, z):
     return (cells[z][y] >> x) & 1 == 1
 
 
-def have_same_views(one, other):
-    """Whether two drawings of the same sizes are the same."""
-    return one.front == other.front and one.right == other.right and one.top == other.top
+def first_apart(one, other):
+    """The first place, row by row from row 0 up, at which two views of one size differ, or None."""
+    for at in range(len(one)):
+        for along in range(len(one[at])):
+            if one[at][along] != other[at][along]:
+                return [along, at]
+    return None
 
 
-def refusal_of(drawing):
+def sizes_of(drawing):
+    """The sizes w, d, h of a drawing."""
+    return [len(drawing.front[0]), len(drawing.top), len(drawing.front)]
+
+
+def first_difference(one, other):
+    """The first difference of two drawings, in the three numbers of has, or None."""
+    if sizes_of(one) != sizes_of(other):
+        return [0, 0, 0]
+    views = [(one.front, other.front), (one.right, other.right), (one.top, other.top)]
+    for at, pair in enumerate(views):
+        place = first_apart(pair[0], pair[1])
+        if place is not None:
+            return [at + 1] + place
+    return None
+
+
+def refusal_of_part(part):
+    """The refusal of a part's text, or None if there's none."""
+    if len(part) > MOST_BYTES:
+        return [TOO_LONG]
+    try:
+        read_part(part)
+    except PartFault as fault:
+        return [AT_FAULT, fault.line, fault.why]
+    return None
+
+
+def refusal_of_drawing(drawing):
     """The refusal of a drawing's text, or None if there's none."""
     if len(drawing) > MOST_BYTES:
         return [TOO_LONG]
@@ -135,21 +170,37 @@ def refusal_of(drawing):
     return None
 
 
+def refusal_of_both(part, drawing):
+    """The refusal of a part's text and a drawing's together, or None if there's none."""
+    of_part = refusal_of_part(part)
+    of_drawing = refusal_of_drawing(drawing)
+    if [TOO_LONG] in (of_part, of_drawing):
+        return [TOO_LONG]
+    if of_part is not None:
+        return of_part
+    if of_drawing is not None:
+        return of_drawing + [OF_THE_DRAWING]
+    return None
+
+
+def drawing_of(part):
+    """The own drawing of a part that a text tells."""
+    block = read_part(part)
+    return views_of(cells_of(block), block.w)
+
+
 def of(part):
     """The drawing of a part's text: how many bytes it has, then they."""
-    if len(part) > MOST_BYTES:
-        return [TOO_LONG]
-    try:
-        block = read_part(part)
-    except PartFault as fault:
-        return [AT_FAULT, fault.line, fault.why]
-    text = write_drawing(views_of(cells_of(block), block.w))
+    refusal = refusal_of_part(part)
+    if refusal is not None:
+        return refusal
+    text = write_drawing(drawing_of(part))
     return [len(text)] + text
 
 
 def judge(drawing):
     """Whether a drawing's text is at fault: 0, or a refusal."""
-    refusal = refusal_of(drawing)
+    refusal = refusal_of_drawing(drawing)
     if refusal is not None:
         return refusal
     return [0]
@@ -157,19 +208,19 @@ def judge(drawing):
 
 def sizes(drawing):
     """Of a drawing's text its sizes, how many cells the most has and how many are sure, and if it's of something."""
-    refusal = refusal_of(drawing)
+    refusal = refusal_of_drawing(drawing)
     if refusal is not None:
         return refusal
     views = read_drawing(drawing)
     w = len(views.front[0])
     most = most_of(views)
-    something = 1 if have_same_views(views_of(most, w), views) else 0
-    return [0, w, len(views.top), len(views.front), how_many(most, w), how_many(sure_of(most), w), something]
+    something = 1 if first_difference(views_of(most, w), views) is None else 0
+    return [0] + sizes_of(views) + [how_many(most, w), how_many(sure_of(most), w), something]
 
 
 def cell(x, y, z, drawing):
     """What (x, y, z) is by a drawing's text: 0 not the most's, 1 the most's, 2 sure."""
-    refusal = refusal_of(drawing)
+    refusal = refusal_of_drawing(drawing)
     if refusal is not None:
         return refusal
     most = most_of(read_drawing(drawing))
@@ -182,7 +233,7 @@ def cell(x, y, z, drawing):
 
 def slice_of(z, drawing):
     """The most's slice z of a drawing's text: how many bytes it has, then they."""
-    refusal = refusal_of(drawing)
+    refusal = refusal_of_drawing(drawing)
     if refusal is not None:
         return refusal
     views = read_drawing(drawing)
@@ -191,3 +242,14 @@ def slice_of(z, drawing):
     w = len(views.front[0])
     text = write_slice([row_of(bits, w) for bits in most_of(views)[z]])
     return [len(text)] + text
+
+
+def has(part, drawing):
+    """Whether a part has a drawing, by their texts: 1, or 0 and the first difference."""
+    refusal = refusal_of_both(part, drawing)
+    if refusal is not None:
+        return refusal
+    difference = first_difference(drawing_of(part), read_drawing(drawing))
+    if difference is None:
+        return [1]
+    return [0] + difference
